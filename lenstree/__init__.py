@@ -1,0 +1,1 @@
+"""Lenstree: a relational store in which every schema version is live."""

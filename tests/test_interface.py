@@ -1,0 +1,35 @@
+"""The functions of the interface stand in their files, with the arguments that the document lists."""
+
+import importlib
+import inspect
+import unittest
+
+FUNCTIONS = {
+    "values": {
+        "is_value": ["thing"], "kind_of": ["value"], "convert": ["value", "kind"], "plain_value": ["kind", "nullable"],
+        "cut": ["text", "separator"], "glue": ["first", "second", "separator"],
+    },
+    "conditions": {
+        "fits": ["condition", "columns"], "holds": ["condition", "names", "row"], "mentions": ["condition", "name"],
+        "renamed": ["condition", "old", "new"],
+    },
+    "schema": {
+        "check_schema": ["schema"], "copy_schema": ["schema"], "column_names": ["description"],
+        "is_used": ["description", "column"], "is_referenced": ["schema", "table"],
+    },
+}
+
+
+class InterfaceTest(unittest.TestCase):
+    def test_functions(self):
+        for file, functions in FUNCTIONS.items():
+            module = importlib.import_module("lenstree." + file)
+            for name, arguments in functions.items():
+                with self.subTest(file=file, name=name):
+                    function = getattr(module, name)
+                    self.assertEqual(function.__module__, "lenstree." + file)
+                    self.assertEqual(list(inspect.signature(function).parameters), arguments)
+
+
+if __name__ == "__main__":
+    unittest.main()
