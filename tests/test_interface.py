@@ -17,6 +17,19 @@ FUNCTIONS = {
         "check_schema": ["schema"], "copy_schema": ["schema"], "column_names": ["description"],
         "is_used": ["description", "column"], "is_referenced": ["schema", "table"],
     },
+    "states": {
+        "empty_state": ["schema"], "copy_state": ["state"], "fits_schema": ["schema", "state"],
+        "first_fault": ["schema", "state"], "rows": ["state", "table"],
+    },
+    "steps": {"target_schema": ["schema", "step"], "script_schema": ["schema", "script"]},
+    "columns": {
+        "column_right": ["schema", "step", "left", "complement"],
+        "column_left": ["schema", "step", "right", "complement"],
+    },
+    "tables": {
+        "table_right": ["schema", "step", "left", "complement"],
+        "table_left": ["schema", "step", "right", "complement"],
+    },
 }
 
 
