@@ -21,6 +21,9 @@ FUNCTIONS = {
         "empty_state": ["schema"], "copy_state": ["state"], "fits_schema": ["schema", "state"],
         "first_fault": ["schema", "state"], "rows": ["state", "table"],
     },
+    "edits": {
+        "apply_write": ["schema", "state", "edits"], "difference": ["schema", "before", "after"], "touched": ["edits"],
+    },
     "steps": {"target_schema": ["schema", "step"], "script_schema": ["schema", "script"]},
     "columns": {
         "column_right": ["schema", "step", "left", "complement"],
@@ -29,6 +32,19 @@ FUNCTIONS = {
     "tables": {
         "table_right": ["schema", "step", "left", "complement"],
         "table_left": ["schema", "step", "right", "complement"],
+    },
+    "groups": {
+        "group_right": ["schema", "step", "left", "complement"],
+        "group_left": ["schema", "step", "right", "complement"],
+    },
+    "limits": {
+        "limit_right": ["schema", "step", "left", "complement"],
+        "limit_left": ["schema", "step", "right", "complement"],
+    },
+    "lens": {
+        "empty_complement": ["step"],
+        "put_right": ["schema", "step", "left", "complement"],
+        "put_left": ["schema", "step", "right", "complement"],
     },
 }
 

@@ -9,7 +9,11 @@ import random
 import unittest
 
 from lenstree.columns import column_left, column_right
+from lenstree.conditions import holds
 from lenstree.errors import LensError
+from lenstree.groups import group_left, group_right
+from lenstree.lens import empty_complement, put_left, put_right
+from lenstree.limits import limit_left, limit_right
 from lenstree.states import fits_schema
 from lenstree.steps import target_schema
 from lenstree.tables import table_left, table_right
@@ -26,6 +30,7 @@ OTHER = described([("nr", "int", False), ("a", "int", True), ("b", "text", False
 WORD = described([("w", "text", False), ("a", "int", True)])
 SCHEMA = {"person": PERSON, "word": WORD}
 FREE = {"person": described(COLUMNS), "word": WORD}
+RIGHTS = (column_right, table_right, group_right, limit_right)
 CONDITION = ((("n", ">", 0), ("t", "given", None)), (("u", "=", "a"),))
 
 
@@ -59,7 +64,7 @@ def any_flag(source):
 
 
 def any_entry(source, step, name, left, right):
-    """Return a function that gives any item of the entry of the complement, as points 21 to 28 tell its form."""
+    """Return a function that gives any item of the entry of the complement, as points 21 to 31 tell its form."""
     kind, table = step[0], step[1]
     if name == "values":
         wide = right if kind == "add_column" else left
@@ -80,17 +85,39 @@ def any_entry(source, step, name, left, right):
     if name in ("missing", "extra"):
         columns = (right if kind == "decompose" else left)[step[2]]["columns"][1:]
         return lambda: any_rest(source, columns)
+    if name in ("known", "apart"):
+        part = (right if kind == "extract" else left)[step[-1]]["columns"][1:]
+        if name == "known":
+            return lambda: any_rest(source, part)
+        group = [item for item in left[table]["columns"] if item[0] == step[2]]
+        return lambda: any_rest(source, group) + (any_rest(source, part),)
+    if name in ("hidden", "shown"):
+        return lambda: any_rest(source, left[table]["columns"][1:])
     return lambda: (any_rest(source, left[table]["columns"][1:]), any_flag(source))
 
 
 def any_complement(source, step, names, left, right):
     """Return any complement with these entries."""
-    description = (left if step[1] in left else right)[step[1]]
     result = {}
     for name in names:
         entry = any_entry(source, step, name, left, right)
+        table = step[-1] if name == "known" else step[1]
+        description = (right if table in right else left)[table]
         result[name] = {key: entry() for key in any_keys(source, description)}
     return result
+
+
+def satisfies(schema, step, state):
+    """Tell whether the rows keep the constraint that the step adds or drops."""
+    kind, table, what = step[:3]
+    names = [column[0] for column in schema[table]["columns"]]
+    listed = [(key,) + rest for key, rest in state[table].items()]
+    if kind in ("add_check", "drop_check"):
+        return all([holds(what, names, row) for row in listed])
+    given = [row[names.index(what)] for row in listed if row[names.index(what)] is not None]
+    if kind in ("add_unique", "drop_unique"):
+        return len(set(given)) == len(given)
+    return all([value in state[step[3]] for value in given])
 
 
 class LawsTest(unittest.TestCase):
@@ -104,27 +131,32 @@ class LawsTest(unittest.TestCase):
             return False
         self.assertTrue(fits_schema(schemas[1], other))
         self.assertEqual(sorted(new), sorted(complement))
+        self.assertEqual((schema, state, complement), before)
+        bound = there is limit_left if step[0].startswith("add_") else there is limit_right
+        if bound and not satisfies(schema, step, state):
+            return False
         self.assertEqual(back(schema, step, other, new), (state, new))
         self.assertEqual(there(schema, step, state, new), (other, new))
-        self.assertEqual((schema, state, complement), before)
+        self.assertEqual((put_right if there in RIGHTS else put_left)(schema, step, state, new), (other, new))
         return True
 
     def keeps_the_rules(self, schema, step, names, puts):
         """See that the lens of the step keeps both rules."""
         right_schema = target_schema(schema, step)
         source = random.Random(repr(step))
-        put_right, put_left = puts
+        go_right, go_left = puts
+        self.assertEqual(sorted(empty_complement(step)), sorted(names))
         count = 0
         for _ in range(ROUNDS):
             complement = any_complement(source, step, names, schema, right_schema)
             state = any_state(source, schema)
             schemas = (schema, right_schema)
-            count += self.there_and_back(schema, step, put_right, put_left, schemas, state, complement)
+            count += self.there_and_back(schema, step, go_right, go_left, schemas, state, complement)
             complement = any_complement(source, step, names, schema, right_schema)
             state = any_state(source, right_schema)
             schemas = (right_schema, schema)
-            count += self.there_and_back(schema, step, put_left, put_right, schemas, state, complement)
-        self.assertGreater(count, ROUNDS)
+            count += self.there_and_back(schema, step, go_left, go_right, schemas, state, complement)
+        self.assertGreater(count, ROUNDS // 2)
 
     def column_step(self, step, names, schema=FREE):
         with self.subTest(step=step):
@@ -133,6 +165,14 @@ class LawsTest(unittest.TestCase):
     def table_step(self, step, names, schema=FREE):
         with self.subTest(step=step):
             self.keeps_the_rules(schema, step, names, (table_right, table_left))
+
+    def group_step(self, step, schema):
+        with self.subTest(step=step):
+            self.keeps_the_rules(schema, step, ["known", "apart"], (group_right, group_left))
+
+    def limit_step(self, step, names, schema):
+        with self.subTest(step=step):
+            self.keeps_the_rules(schema, step, names, (limit_right, limit_left))
 
     def test_rename_column(self):
         self.column_step(("rename_column", "person", "n", "new"), [], SCHEMA)
@@ -208,6 +248,40 @@ class LawsTest(unittest.TestCase):
             self.table_step(("move", "person", "other", condition), ["marks"], {**SCHEMA, "other": described(COLUMNS)})
         small = described([KEY, ("a", "int", True)])
         self.table_step(("move", "person", "other", only("a", "=", 1)), ["marks"], {"person": small, "other": small})
+
+    def test_extract(self):
+        """The groups are few, so that rows share them; the values of the parts are few in the second schema."""
+        for column, columns in (("n", ("t",)), ("t", ("n", "u")), ("u", ("m", "n", "t")), ("m", ("u", "n"))):
+            self.group_step(("extract", "person", column, columns, "other"), FREE)
+        small = {"person": described([KEY, ("g", "int", True), ("f", "text", False)])}
+        self.group_step(("extract", "person", "g", ("f",), "other"), small)
+        self.group_step(("extract", "person", "f", ("g",), "other"), small)
+
+    def test_inline(self):
+        for column in ("n", "m"):
+            for other in (OTHER, described([("nr", "int", False)]), described([KEY, ("a", "int", False)])):
+                self.group_step(("inline", "person", column, "other"), {**SCHEMA, "other": other})
+        for column in ("t", "u"):
+            self.group_step(("inline", "person", column, "word"), SCHEMA)
+
+    def test_checks(self):
+        for condition in (CONDITION, (), ((),), only("n", "null", None), only("id", "<=", 2)):
+            self.limit_step(("add_check", "person", condition), ["hidden"], SCHEMA)
+            schema = {"person": described(COLUMNS, [only("id", ">", 1), condition]), "word": WORD}
+            self.limit_step(("drop_check", "person", condition), ["hidden"], schema)
+
+    def test_uniques(self):
+        for column in ("n", "t", "m", "u"):
+            self.limit_step(("add_unique", "person", column), ["hidden", "shown"], FREE)
+            schema = {"person": described(COLUMNS, [], [column]), "word": WORD}
+            self.limit_step(("drop_unique", "person", column), ["hidden", "shown"], schema)
+
+    def test_references(self):
+        for column, other in (("n", "other"), ("m", "other"), ("t", "word"), ("u", "word")):
+            self.limit_step(("add_reference", "person", column, other), ["hidden"], {**FREE, "other": OTHER})
+            person = described(COLUMNS, [], [], [(column, other)])
+            schema = {"person": person, "word": WORD, "other": OTHER}
+            self.limit_step(("drop_reference", "person", column, other), ["hidden"], schema)
 
 
 if __name__ == "__main__":
