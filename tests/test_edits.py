@@ -237,6 +237,12 @@ class DifferenceTest(unittest.TestCase):
             ("delete", "word", ""), ("delete", "word", "b"),
         ])
 
+    def test_the_example_of_the_document(self):
+        schema = {"person": described([("id", "int", False), ("name", "text", True)])}
+        before, after = {"person": {1: ("al",), 2: ("bo",)}}, {"person": {2: (None,), 3: ("cy",)}}
+        expected = [("delete", "person", 1), ("replace", "person", (2, None)), ("insert", "person", (3, "cy"))]
+        self.assertEqual(called(self, difference, schema, before, after), expected)
+
     def test_rows_that_appear_change_and_vanish(self):
         after = {
             "word": {"c": ("",), "b": ("y",), "a": ("",)},

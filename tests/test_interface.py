@@ -1,4 +1,4 @@
-"""The functions of the interface stand in their files, with the arguments that the document lists."""
+"""The functions and classes of the interface stand in their files, with the arguments that the document lists."""
 
 import importlib
 import inspect
@@ -46,6 +46,28 @@ FUNCTIONS = {
         "put_right": ["schema", "step", "left", "complement"],
         "put_left": ["schema", "step", "right", "complement"],
     },
+    "forms": {"fits_step": ["schema", "step", "complement"]},
+    "scripts": {
+        "empty_complements": ["script"],
+        "script_right": ["schema", "script", "left", "complements"],
+        "script_left": ["schema", "script", "right", "complements"],
+    },
+}
+CLASSES = {
+    "tree": {
+        "Tree": {
+            "__init__": ["schema"], "numbers": [], "nodes": [], "is_live": ["number"], "parent": ["number"],
+            "script": ["number"], "schema": ["number"], "children": ["number"], "walk": ["number"],
+            "path": ["start", "end"], "next_number": [], "add": ["parent", "script"], "prune": ["number"],
+            "rebase": ["number", "parent"], "copy_tree": [], "outline": [],
+        },
+    },
+    "model": {
+        "Model": {
+            "__init__": ["schema"], "show": ["version"], "complements": ["node"], "evolve": ["parent", "script"],
+            "write": ["version", "edits"], "prune": ["version"], "rebase": ["version", "parent"],
+        },
+    },
 }
 
 
@@ -58,6 +80,18 @@ class InterfaceTest(unittest.TestCase):
                     function = getattr(module, name)
                     self.assertEqual(function.__module__, "lenstree." + file)
                     self.assertEqual(list(inspect.signature(function).parameters), arguments)
+
+    def test_classes(self):
+        """Each method stands in the class itself."""
+        for file, classes in CLASSES.items():
+            module = importlib.import_module("lenstree." + file)
+            for name, methods in classes.items():
+                owner = getattr(module, name)
+                self.assertEqual(owner.__module__, "lenstree." + file)
+                for method, arguments in methods.items():
+                    with self.subTest(file=file, name=name, method=method):
+                        found = list(inspect.signature(vars(owner)[method]).parameters)
+                        self.assertEqual(found, ["self"] + arguments)
 
 
 if __name__ == "__main__":

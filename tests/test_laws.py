@@ -11,6 +11,7 @@ import unittest
 from lenstree.columns import column_left, column_right
 from lenstree.conditions import holds
 from lenstree.errors import LensError
+from lenstree.forms import fits_step
 from lenstree.groups import group_left, group_right
 from lenstree.lens import empty_complement, put_left, put_right
 from lenstree.limits import limit_left, limit_right
@@ -124,6 +125,7 @@ class LawsTest(unittest.TestCase):
     def there_and_back(self, schema, step, there, back, schemas, state, complement):
         """See that a put and the put back give the state again, and leave the complement that the first one made."""
         before = copy.deepcopy((schema, state, complement))
+        self.assertTrue(fits_step(schema, step, complement))
         try:
             other, new = there(schema, step, state, complement)
         except LensError:
@@ -131,6 +133,7 @@ class LawsTest(unittest.TestCase):
             return False
         self.assertTrue(fits_schema(schemas[1], other))
         self.assertEqual(sorted(new), sorted(complement))
+        self.assertTrue(fits_step(schema, step, new))
         self.assertEqual((schema, state, complement), before)
         bound = there is limit_left if step[0].startswith("add_") else there is limit_right
         if bound and not satisfies(schema, step, state):
