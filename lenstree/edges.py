@@ -36,6 +36,13 @@ def carry(tree, complements, near, far, state):
     return script_left(tree.schema(far), script, state, complements[lower])
 
 
+def state_along(tree, complements, path, state):
+    """Carry the state of the first node of the path to the last one; what that does to the complements is dropped."""
+    for near, far in zip(path, path[1:]):
+        state, _ = carry(tree, complements, near, far, state)
+    return state
+
+
 def refuse_faults(tree, version, state):
     """Raise RejectedError with the first fault of the state of the version if it is not sound."""
     fault = first_fault(tree.schema(version), state)

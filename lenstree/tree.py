@@ -74,6 +74,10 @@ class Tree:
                 pairs.append((near, far))
         return pairs
 
+    def is_below(self, number, top):
+        """Tell whether a node is this other one or below it."""
+        return number == top or number in [far for _, far in self.walk_below(top)]
+
     def path(self, start, end):
         """Return the list of the nodes from one node to another one, both included."""
         nears = {far: near for near, far in self.walk(start)}
@@ -140,13 +144,17 @@ class Tree:
 
         Raise VersionError or StepError.
         """
-        code = self._rebase_code(number, parent)
-        if code != "":
-            raise VersionError(code)
+        self.refuse_rebase(number, parent)
         schemas = self._schemas_under(number, parent)
         self._parents[number] = parent
         self._schemas.update(schemas)
         return self._clear_away()
+
+    def refuse_rebase(self, number, parent):
+        """Raise VersionError if the version cannot be hung under the other one, whatever the scripts are."""
+        code = self._rebase_code(number, parent)
+        if code != "":
+            raise VersionError(code)
 
     def _rebase_code(self, number, parent):
         """Return the first code that applies to this rebase, or ""."""
@@ -154,7 +162,7 @@ class Tree:
             return "missing"
         if self._parents[number] == NOWHERE:
             return "root"
-        if parent == number or parent in [far for _, far in self.walk_below(number)]:
+        if self.is_below(parent, number):
             return "below"
         if self._parents[number] == parent:
             return "same"
@@ -176,6 +184,17 @@ class Tree:
         result._schemas = {number: copy_schema(self._schemas[number]) for number in self._schemas}
         result._flags = dict(self._flags)
         return result
+
+    def take_over(self, upcoming, lines, schema):
+        """Become the tree with this outline: the next number, the lines of all nodes and the schema of the root."""
+        self._upcoming = upcoming
+        self._parents = {number: parent for number, parent, _, _ in lines}
+        self._scripts = {number: list(script) for number, _, _, script in lines}
+        self._flags = {number: flag for number, _, flag, _ in lines}
+        root = [number for number, parent, _, _ in lines if parent == NOWHERE][0]
+        self._schemas = {root: copy_schema(schema)}
+        for near, far in self.walk(root):
+            self._schemas[far] = script_schema(self._schemas[near], self._scripts[far])
 
     def outline(self):
         """Return the next number, the list of (number, parent, live, script) of all nodes, and the root's schema."""

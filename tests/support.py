@@ -49,3 +49,16 @@ def raised(test, error, function, *arguments):
     test.assertEqual(arguments, before)
     test.assertIs(type(caught.exception), error)
     return caught.exception
+
+
+def wreck(thing):
+    """Empty all lists and dicts within a thing, the innermost ones first."""
+    if isinstance(thing, dict):
+        for item in thing.values():
+            wreck(item)
+        thing.clear()
+    elif isinstance(thing, (list, tuple)):
+        for item in thing:
+            wreck(item)
+        if isinstance(thing, list):
+            thing.clear()

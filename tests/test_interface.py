@@ -52,6 +52,8 @@ FUNCTIONS = {
         "script_right": ["schema", "script", "left", "complements"],
         "script_left": ["schema", "script", "right", "complements"],
     },
+    "restore": {"stored_from": ["image"]},
+    "queries": {"query_columns": ["schema", "query"]},
 }
 CLASSES = {
     "tree": {
@@ -66,6 +68,20 @@ CLASSES = {
         "Model": {
             "__init__": ["schema"], "show": ["version"], "complements": ["node"], "evolve": ["parent", "script"],
             "write": ["version", "edits"], "prune": ["version"], "rebase": ["version", "parent"],
+        },
+    },
+    "stored": {
+        "Stored": {
+            "__init__": ["schema"], "show": ["version"], "complements": ["node"], "evolve": ["parent", "script"],
+            "write": ["version", "edits"], "prune": ["version"], "rebase": ["version", "parent"], "home": [],
+            "kept": [], "begin_move": ["version"], "advance": ["count"], "stop_move": [], "move_view": [], "image": [],
+        },
+    },
+    "transactions": {
+        "Desk": {
+            "__init__": ["store"], "begin": ["version"], "read": ["number", "table", "key"],
+            "scan": ["number", "table"], "edit": ["number", "edits"], "commit": ["number"], "abort": ["number"],
+            "open_numbers": [],
         },
     },
 }
