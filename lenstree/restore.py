@@ -9,8 +9,8 @@ def stored_from(image):
     outline, home, kept, listed, move = image
     upcoming, lines, schema = outline
     tree = Tree(schema)
-    tree.take_over(upcoming, lines, schema)
+    tree.take_outline(upcoming, lines, schema)
     complements = {node: edge for node, edge in listed}
     store = Stored(schema)
-    store.take_over(tree, home, kept, complements, move)
+    store.take_parts(tree, home, kept, complements, move)
     return store

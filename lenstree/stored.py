@@ -31,7 +31,7 @@ class Stored:
         self.tree = tree
         self._complements = edges_of(tree, complements)
 
-    def take_over(self, tree, home, kept, complements, move):
+    def take_parts(self, tree, home, kept, complements, move):
         """Become a store with copies of this tree, home, kept state, dict of complements and view of a move."""
         self._keep(tree.copy_tree(), {node: copy_complements(complements[node]) for node in complements})
         self._home = home

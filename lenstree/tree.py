@@ -185,7 +185,7 @@ class Tree:
         result._flags = dict(self._flags)
         return result
 
-    def take_over(self, upcoming, lines, schema):
+    def take_outline(self, upcoming, lines, schema):
         """Become the tree with this outline: the next number, the lines of all nodes and the schema of the root."""
         self._upcoming = upcoming
         self._parents = {number: parent for number, parent, _, _ in lines}

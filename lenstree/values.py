@@ -11,10 +11,14 @@ LAST_CODE = 126
 PERCENT_CODE = 37
 
 
+def is_text_code(code):
+    """Tell whether the character with this code may stand in a text."""
+    return FIRST_CODE <= code and code <= LAST_CODE and code != PERCENT_CODE
+
+
 def is_text_character(character):
     """Tell whether a character may stand in a text."""
-    code = ord(character)
-    return FIRST_CODE <= code and code <= LAST_CODE and code != PERCENT_CODE
+    return is_text_code(ord(character))
 
 
 def is_text(thing):

@@ -3,9 +3,13 @@
 import random
 import unittest
 
+from lenstree.disk import Disk
+from lenstree.engine import recover
 from lenstree.model import Model
 from tests.desk_runs import DeskRun, all_counts
+from tests.engine_case import MovingEngine
 from tests.homes import MovingStored, ShyStored
+from tests.store_case import view
 from tests.store_runs import START, filled
 
 
@@ -42,6 +46,19 @@ class DeskRunsTest(unittest.TestCase):
 
     def test_over_a_stored_whose_home_moves(self):
         self.was_busy(self.runs(MovingStored, range(200, 240)))
+
+    def test_over_an_engine(self):
+        """What was committed is there behind a crash, and nothing else."""
+        disks = []
+
+        def make(schema):
+            disks.append(Disk())
+            return MovingEngine(disks[-1], schema)
+
+        self.was_busy(self.runs(make, range(300, 330)))
+        # The engines come in pairs, of which the second one had each transaction alone.
+        for disk, alone in zip(disks[::2], disks[1::2]):
+            self.assertEqual(view(recover(disk.restarted(0))), view(recover(alone.restarted(0))))
 
 
 if __name__ == "__main__":

@@ -4,6 +4,13 @@ import importlib
 import inspect
 import unittest
 
+from lenstree.disk import Disk
+from lenstree.engine import Engine
+from lenstree.model import Model
+from lenstree.restore import stored_from
+from lenstree.stored import Stored
+from lenstree.tree import Tree
+
 FUNCTIONS = {
     "values": {
         "is_value": ["thing"], "kind_of": ["value"], "convert": ["value", "kind"], "plain_value": ["kind", "nullable"],
@@ -54,6 +61,10 @@ FUNCTIONS = {
     },
     "restore": {"stored_from": ["image"]},
     "queries": {"query_columns": ["schema", "query"]},
+    "answers": {"answer": ["schema", "state", "query"]},
+    "records": {"pack": ["data"], "unpack": ["numbers"]},
+    "journal": {"frame": ["record"], "records_of": ["numbers"]},
+    "engine": {"recover": ["disk"]},
 }
 CLASSES = {
     "tree": {
@@ -84,6 +95,20 @@ CLASSES = {
             "open_numbers": [],
         },
     },
+    "disk": {
+        "Disk": {
+            "__init__": [], "append": ["area", "numbers"], "sync": ["area"], "wipe": ["area"],
+            "limit_power": ["units"], "contents": ["area"], "durable": ["area"], "restarted": ["count"],
+        },
+    },
+    "engine": {
+        "Engine": {
+            "__init__": ["disk", "schema"], "show": ["version"], "complements": ["node"], "home": [], "kept": [],
+            "move_view": [], "image": [], "evolve": ["parent", "script"], "write": ["version", "edits"],
+            "prune": ["version"], "rebase": ["version", "parent"], "begin_move": ["version"], "advance": ["count"],
+            "stop_move": [], "checkpoint": [], "generation": [], "query": ["version", "query"],
+        },
+    },
 }
 
 
@@ -108,6 +133,11 @@ class InterfaceTest(unittest.TestCase):
                     with self.subTest(file=file, name=name, method=method):
                         found = list(inspect.signature(vars(owner)[method]).parameters)
                         self.assertEqual(found, ["self"] + arguments)
+
+    def test_the_trees_of_stores(self):
+        """An attribute that is listed is set on each object when it is created."""
+        for store in (Model({}), Stored({}), stored_from(Stored({}).image()), Engine(Disk(), {})):
+            self.assertIs(type(vars(store)["tree"]), Tree)
 
 
 if __name__ == "__main__":

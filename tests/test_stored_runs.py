@@ -98,8 +98,8 @@ class SameCallsTest(TwinCase):
                         self.drift(source, store)
                     self.call(source, stores, model)
         for call in ("evolve", "write", "prune", "rebase"):
-            self.assertGreater(self.counts[call, "done", ""], 40, self.counts)
-            self.assertGreater(self.counts[call, "VersionError", "missing"], 5, self.counts)
+            self.assertGreater(self.counts[call, "done", ""], 20, self.counts)
+            self.assertGreater(self.counts[call, "VersionError", "missing"], 2, self.counts)
         for call in ("prune", "rebase"):
             for code in ("home", "moving"):
                 self.assertGreater(self.counts[call, "VersionError", code], 5, self.counts)
